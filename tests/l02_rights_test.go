@@ -13,6 +13,14 @@ var badRights = []int{
 	-1 << 31, -1<<32 + 3, -1<<32 + 1, math.MaxInt - 1, math.MaxInt, math.MinInt, math.MinInt + 1, math.MinInt + 3,
 }
 
+// intersections holds, for each two rights of the range 0 to 3, the rights that they have in common.
+var intersections = [4][4]int{
+	{0, 0, 0, 0},
+	{0, 1, 0, 1},
+	{0, 0, 2, 2},
+	{0, 1, 2, 3},
+}
+
 func TestRightsBits(t *testing.T) {
 	if impl.RtRead != 1 || impl.RtWrite != 2 {
 		t.Error("rights differ from chapter 2:", impl.RtRead, impl.RtWrite)
@@ -33,16 +41,10 @@ func TestRightsOk(t *testing.T) {
 }
 
 func TestBothRightsIsTheIntersection(t *testing.T) {
-	want := [4][4]int{
-		{0, 0, 0, 0},
-		{0, 1, 0, 1},
-		{0, 0, 2, 2},
-		{0, 1, 2, 3},
-	}
 	for a := range 4 {
 		for b := range 4 {
-			if got := impl.BothRights(a, b); got != want[a][b] {
-				t.Errorf("BothRights(%d, %d) = %d; want %d", a, b, got, want[a][b])
+			if got := impl.BothRights(a, b); got != intersections[a][b] {
+				t.Errorf("BothRights(%d, %d) = %d; want %d", a, b, got, intersections[a][b])
 			}
 		}
 	}

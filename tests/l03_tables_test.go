@@ -3,6 +3,7 @@ package tests
 import (
 	"math"
 	"slices"
+	"strconv"
 	"testing"
 
 	"loop.example/g00975/impl"
@@ -271,32 +272,33 @@ func TestWithSlotSharesNoMemory(t *testing.T) {
 	for _, n := range tableLengths {
 		for _, spare := range []int{0, 1, 30} {
 			for _, index := range []int{-1, 0, n / 2, n - 1, n, n + 1, math.MaxInt, math.MinInt} {
-				checkSharesNothing(t, n, spare, index)
+				checkSharesNothing(t, "WithSlot at "+strconv.Itoa(index), slotsOfLength(n+spare), n, func(table []impl.Slot) []impl.Slot {
+					return impl.WithSlot(table, index, impl.Slot{Page: 7, Rights: 2})
+				})
 			}
 		}
 	}
 }
 
-// checkSharesNothing fails if WithSlot changes its argument, or if writing to the result or to the argument is seen in the other one.
-func checkSharesNothing(t *testing.T, n, spare, index int) {
+// checkSharesNothing fails if the call with the first n slots of whole modifies its argument, or if writing to the result or to the argument is seen in the other one.
+func checkSharesNothing(t *testing.T, name string, whole []impl.Slot, n int, call func(table []impl.Slot) []impl.Slot) {
 	t.Helper()
-	whole := slotsOfLength(n + spare)
 	before := slices.Clone(whole)
 	table := whole[:n]
-	got := impl.WithSlot(table, index, impl.Slot{Page: 7, Rights: 2})
+	got := call(table)
 	if !slices.Equal(whole, before) {
-		t.Errorf("WithSlot of %d slots, spare %d, at %d modified its argument", n, spare, index)
+		t.Errorf("%s of %d slots, spare %d, modified its argument", name, n, len(whole)-n)
 	}
 	result := slices.Clone(got)
 	spoil(table)
 	if !slices.Equal(got, result) {
-		t.Errorf("WithSlot of %d slots, spare %d, at %d changes with its argument", n, spare, index)
+		t.Errorf("%s of %d slots, spare %d, changes with its argument", name, n, len(whole)-n)
 	}
 	copy(whole, before)
 	spoil(got)
 	_ = append(got, impl.Slot{Page: -78, Rights: -78})
 	if !slices.Equal(whole, before) {
-		t.Errorf("writing to WithSlot of %d slots, spare %d, at %d changes its argument", n, spare, index)
+		t.Errorf("writing to %s of %d slots, spare %d, changes its argument", name, n, len(whole)-n)
 	}
 }
 
