@@ -379,13 +379,18 @@ func TestAccessOfEverySlot(t *testing.T) {
 	}
 }
 
-// TestAccessOfSlotsThatAreNotValid has slots without rights, and rights without a page: the machine is not valid, and nothing happens.
-func TestAccessOfSlotsThatAreNotValid(t *testing.T) {
+// slotsThatAreNotValid have a page outside the machine, no rights, rights without a page, or numbers that are no rights.
+func slotsThatAreNotValid() []impl.Slot {
 	slots := []impl.Slot{{Page: -1, Rights: 1}, {Page: -1, Rights: 3}, {Page: 8, Rights: 3}, {Page: -2, Rights: 3}, {Page: 2, Rights: 4}, {Page: 2, Rights: -1}, {Page: 1 << 32, Rights: 3}, {Page: math.MinInt, Rights: 3}, {Page: math.MaxInt, Rights: 3}}
 	for page := range 8 {
 		slots = append(slots, impl.Slot{Page: page})
 	}
-	for _, s := range slots {
+	return slots
+}
+
+// TestAccessOfSlotsThatAreNotValid has slots without rights, and rights without a page: the machine is not valid, and nothing happens.
+func TestAccessOfSlotsThatAreNotValid(t *testing.T) {
+	for _, s := range slotsThatAreNotValid() {
 		for addr := range 16 {
 			for _, op := range []int{3, 4} {
 				open := slices.Repeat([]impl.Slot{{Page: 6, Rights: 3}}, 4)
